@@ -799,6 +799,7 @@ func TestP21NotOk(t *testing.T) {
 }
 
 func TestP21RandomRows(t *testing.T) {
+	t.Parallel()
 	dice := newDice(21)
 	ends := map[int]int{}
 	for range 5000 {
@@ -823,6 +824,7 @@ func TestP21RandomRows(t *testing.T) {
 }
 
 func TestP21AnyRows(t *testing.T) {
+	t.Parallel()
 	dice := newDice(211)
 	for range 3000 {
 		b := randomBox(dice)
@@ -838,6 +840,7 @@ func TestP21AnyRows(t *testing.T) {
 }
 
 func TestP22IntoFile(t *testing.T) {
+	t.Parallel()
 	dice := newDice(22)
 	kept := 0
 	check := func(b impl.Box, row string) {
@@ -873,6 +876,7 @@ func TestP22IntoFile(t *testing.T) {
 }
 
 func TestP23OnlyLook(t *testing.T) {
+	t.Parallel()
 	dice := newDice(23)
 	looks := strings.Fields("true : false echo cat test wc sort grep head none")
 	check := func(b impl.Box, row string) {
@@ -917,6 +921,7 @@ func textsOfLines(call func(text string)) {
 }
 
 func TestP24Sort(t *testing.T) {
+	t.Parallel()
 	textsOfLines(func(text string) {
 		b := stock("f=" + text)
 		box, sorted, status := checkBox(t, b, 0, "sort f")
@@ -945,6 +950,7 @@ func TestP24Sort(t *testing.T) {
 }
 
 func TestP25Grep(t *testing.T) {
+	t.Parallel()
 	textsOfLines(func(text string) {
 		b := stock("f=" + text)
 		for _, word := range []string{"''", "a", "b", "ab", "' '", "zz"} {
@@ -965,6 +971,7 @@ func TestP25Grep(t *testing.T) {
 }
 
 func TestP26Copies(t *testing.T) {
+	t.Parallel()
 	dice := newDice(26)
 	moved := 0
 	for range 5000 {
@@ -1036,6 +1043,7 @@ func checkSet(t *testing.T, text string) bool {
 }
 
 func TestP27Said(t *testing.T) {
+	t.Parallel()
 	for _, text := range []string{"", " ", "a", "a b", "  a  ", "'", "it's", "\"", "\\", "$x", "$", "*", "#", "#a", "=", "x=1", ";|&<>()", "-f", "~", strings.Repeat("a", 50), strings.Repeat(" ", 50), strings.Repeat("*", 50), strings.Repeat("'", 13)} {
 		if !checkSet(t, text) {
 			t.Errorf("%q", text)

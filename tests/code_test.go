@@ -212,6 +212,7 @@ func TestP15Kinds(t *testing.T) {
 }
 
 func TestP15EachKid(t *testing.T) {
+	t.Parallel()
 	dice := newDice(15)
 	fine := 0
 	withKids(func(p *plant) {
@@ -517,6 +518,7 @@ func wrongOps() []impl.Op {
 }
 
 func TestP15CodeOk(t *testing.T) {
+	t.Parallel()
 	end := does(impl.OpEnd)
 	fine := 0
 	for _, op := range wrongOps() {
@@ -556,6 +558,7 @@ func TestP15CodeOk(t *testing.T) {
 }
 
 func TestP15SpoiltCode(t *testing.T) {
+	t.Parallel()
 	dice := newDice(151)
 	ops := wrongOps()
 	for range 3000 {
@@ -607,6 +610,7 @@ func TestP16Pipes(t *testing.T) {
 }
 
 func TestP16AllTexts(t *testing.T) {
+	t.Parallel()
 	fine := 0
 	check := func(s string) {
 		if checkPipe(t, s) {

@@ -71,6 +71,7 @@ func TestP17Patterns(t *testing.T) {
 }
 
 func TestP17AllTexts(t *testing.T) {
+	t.Parallel()
 	var texts []string
 	eachText("ab*", 4, func(s string) { texts = append(texts, s) })
 	eachText("ab", 6, func(s string) { texts = append(texts, s) })
@@ -411,6 +412,7 @@ func TestP18Limits(t *testing.T) {
 
 // P18: of a word without quotes, between `"`, it is that of the word as one.
 func TestP18Quoted(t *testing.T) {
+	t.Parallel()
 	dice := newDice(18)
 	both, refused := 0, 0
 	for range 30000 {
@@ -460,6 +462,7 @@ func randomScene(dice *rand.Rand) scene {
 }
 
 func TestP18RandomWords(t *testing.T) {
+	t.Parallel()
 	dice := newDice(180)
 	fine, wrong := 0, 0
 	for range 40000 {
@@ -483,6 +486,7 @@ func TestP18RandomWords(t *testing.T) {
 
 // P19: stars and blanks, quoted and not, of words and of names.
 func TestP19RandomStars(t *testing.T) {
+	t.Parallel()
 	dice := newDice(19)
 	parts := []string{"*", "*", `\*`, "'*'", `"*"`, "a", "b", ".", "''", "' '", "${x}", "${x}", `"$x"`, "${_}", `"$_*"`, "$?", "$((1))", "-", "'a'"}
 	opened := 0
@@ -535,6 +539,7 @@ func TestP19Stars(t *testing.T) {
 }
 
 func TestP20Names(t *testing.T) {
+	t.Parallel()
 	check := func(text string) {
 		for _, n := range []string{"x", "abcdef", "_"} {
 			s := saying(n, text)

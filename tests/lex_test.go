@@ -167,6 +167,7 @@ func wordShape() *regexp.Regexp {
 }
 
 func TestP10AllTexts(t *testing.T) {
+	t.Parallel()
 	form := wordShape()
 	check := func(s string) {
 		if want := s != "" && s[0] != '#' && len(s) <= impl.WordMax && form.MatchString(s); impl.WordOk(s) != want {
@@ -491,6 +492,7 @@ func TestP8Long(t *testing.T) {
 }
 
 func TestP8AllTexts(t *testing.T) {
+	t.Parallel()
 	eachText(allBytes(), 2, func(s string) { checkLex(t, s) })
 	eachText("a'\"\\$ #;&\n", 5, func(s string) { checkLex(t, s) })
 	dice := newDice(81)
@@ -526,6 +528,7 @@ func checkLines(t *testing.T, a string, b string) {
 }
 
 func TestP9Lines(t *testing.T) {
+	t.Parallel()
 	dice := newDice(9)
 	for range 20000 {
 		a, _ := laidOut(dice, dice.IntN(8))

@@ -326,6 +326,7 @@ func codeOf(t *testing.T, s string) []impl.Op {
 }
 
 func TestP29New(t *testing.T) {
+	t.Parallel()
 	end := does(impl.OpEnd)
 	for _, c := range []struct {
 		code []impl.Op
@@ -451,6 +452,7 @@ func TestMachFullOfNames(t *testing.T) {
 
 // Each op, behind each decision.
 func TestMachOps(t *testing.T) {
+	t.Parallel()
 	run, end := runs("a"), does(impl.OpEnd)
 	for status := range impl.StatusMax + 1 {
 		fails, zero := status != 0, 0
@@ -492,6 +494,7 @@ func TestMachOps(t *testing.T) {
 }
 
 func TestP30RandomMachines(t *testing.T) {
+	t.Parallel()
 	dice := newDice(30)
 	waits, others := 0, 0
 	for range 400 {
@@ -630,6 +633,7 @@ func TestP29WrongCode(t *testing.T) {
 }
 
 func TestP30MachOk(t *testing.T) {
+	t.Parallel()
 	code := []impl.Op{runs("echo a"), does(impl.OpNot), runs("cat"), does(impl.OpEnd)}
 	fits := func(want bool, m impl.Mach) {
 		t.Helper()
@@ -706,6 +710,7 @@ func checkAll(t *testing.T, code []impl.Op, list []int, cuts []int) impl.Mach {
 }
 
 func TestP34OneByOne(t *testing.T) {
+	t.Parallel()
 	dice := newDice(34)
 	ended, cut := 0, 0
 	for range 800 {
@@ -746,6 +751,7 @@ func TestP34OneByOne(t *testing.T) {
 }
 
 func TestP33WhateverIsCut(t *testing.T) {
+	t.Parallel()
 	dice := newDice(33)
 	for range 700 {
 		code := randomProgram(dice)

@@ -201,6 +201,7 @@ var (
 
 // P5: a text is a sum just if its form is one.
 func TestP5AllTexts(t *testing.T) {
+	t.Parallel()
 	check := func(s string) {
 		if _, code := checkSum(t, s); (code != impl.MathForm) != sumForm(s) {
 			t.Fatalf("%q: %d", s, code)
@@ -305,6 +306,7 @@ func joined(sign byte, left sum, right sum) sum {
 
 // P5 and P6: sums of all shapes come to what their parts do.
 func TestP5RandomSums(t *testing.T) {
+	t.Parallel()
 	dice := newDice(6)
 	seen := [5]int{}
 	for range 50000 {
@@ -335,6 +337,7 @@ func askJoined(t *testing.T, text string, want sum) int {
 
 // P6: sums are put together as their numbers are.
 func TestP6Together(t *testing.T) {
+	t.Parallel()
 	dice := newDice(7)
 	asked, over := 0, 0
 	for range 20000 {

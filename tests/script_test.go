@@ -147,6 +147,7 @@ func wordsOfAll() []string {
 
 // TestP12AllShort goes through all beginnings with which a script can go on, and all words and signs behind them.
 func TestP12AllShort(t *testing.T) {
+	t.Parallel()
 	var all []impl.Token
 	for _, s := range wordsOfAll() {
 		one, _ := impl.Lex(s)
@@ -193,6 +194,7 @@ func wantOf(p *plant, s string, deepest int) ([]impl.Node, int) {
 }
 
 func TestP12RandomScripts(t *testing.T) {
+	t.Parallel()
 	dice := newDice(12)
 	fine, over := 0, 0
 	for range 8000 {
@@ -216,6 +218,7 @@ func TestP12RandomScripts(t *testing.T) {
 }
 
 func TestP12RandomPlaces(t *testing.T) {
+	t.Parallel()
 	dice := newDice(120)
 	for range 5000 {
 		w := &scribe{dice: dice}
@@ -240,6 +243,7 @@ func TestP12RandomPlaces(t *testing.T) {
 }
 
 func TestP12AnyTexts(t *testing.T) {
+	t.Parallel()
 	dice := newDice(121)
 	for range 10000 {
 		checkScript(t, randomText(dice, "ab;;&|<>()!{} \n\n'$#if", 20))
@@ -502,6 +506,7 @@ func TestP13EachKid(t *testing.T) {
 }
 
 func TestP13RandomNodes(t *testing.T) {
+	t.Parallel()
 	dice := newDice(13)
 	fine := 0
 	for range 5000 {
@@ -638,6 +643,7 @@ func TestP13Limits(t *testing.T) {
 }
 
 func TestP14Around(t *testing.T) {
+	t.Parallel()
 	dice := newDice(14)
 	deep, fine := 0, 0
 	check := func(s string) {
