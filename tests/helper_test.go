@@ -2,12 +2,19 @@ package tests
 
 import (
 	"math/rand/v2"
+	"runtime/debug"
 	"slices"
 	"strings"
 	"testing"
 
 	"loop.example/fugleman/impl"
 )
+
+// TestMain lets garbage lie longer: the tests make little at a time, but so often that most of their time would go into collecting it.
+func TestMain(m *testing.M) {
+	debug.SetGCPercent(800)
+	m.Run()
+}
 
 // newDice is the same row of throws at every run, so that a failure can be seen again.
 func newDice(seed uint64) *rand.Rand {
