@@ -138,23 +138,21 @@ func msgMeant(s string) (impl.Msg, bool) {
 	return m, true
 }
 
-// guardedMsg is a copy of a message with room behind its lists, and a check that nothing was written there.
-func guardedMsg(t *testing.T, m impl.Msg) (impl.Msg, func(what string)) {
+// guardedEntries is a copy of a list with room behind its end, and behind that of each of its votes, and a check that nothing was written there.
+func guardedEntries(t *testing.T, list []impl.Entry) ([]impl.Entry, func(what string)) {
 	t.Helper()
-	votes, votesUntouched := guarded(t, m.Votes, 99)
-	checks := []func(what string){votesUntouched}
-	room := make([]impl.Entry, len(m.List)+3)
+	var checks []func(what string)
+	room := make([]impl.Entry, len(list)+3)
 	for i := range room {
 		room[i] = impl.Entry{Inst: 77, Ballot: 77, Votes: []int{77}}
-		if i < len(m.List) {
-			list, untouched := guarded(t, m.List[i].Votes, 99)
-			room[i] = impl.Entry{Inst: m.List[i].Inst, Ballot: m.List[i].Ballot, Votes: list}
+		if i < len(list) {
+			votes, untouched := guarded(t, list[i].Votes, 99)
+			room[i] = impl.Entry{Inst: list[i].Inst, Ballot: list[i].Ballot, Votes: votes}
 			checks = append(checks, untouched)
 		}
 	}
 	kept := slices.Clone(room)
-	m.Votes, m.List = votes, room[:len(m.List)]
-	return m, func(what string) {
+	return room[:len(list)], func(what string) {
 		t.Helper()
 		for _, check := range checks {
 			check(what)
@@ -162,6 +160,19 @@ func guardedMsg(t *testing.T, m impl.Msg) (impl.Msg, func(what string)) {
 		if !slices.EqualFunc(room, kept, sameEntry) {
 			t.Errorf("%s wrote into an argument: %v, it was %v", what, room, kept)
 		}
+	}
+}
+
+// guardedMsg is a copy of a message with room behind its lists, and a check that nothing was written there.
+func guardedMsg(t *testing.T, m impl.Msg) (impl.Msg, func(what string)) {
+	t.Helper()
+	votes, votesUntouched := guarded(t, m.Votes, 99)
+	list, listUntouched := guardedEntries(t, m.List)
+	m.Votes, m.List = votes, list
+	return m, func(what string) {
+		t.Helper()
+		votesUntouched(what)
+		listUntouched(what)
 	}
 }
 
