@@ -936,6 +936,10 @@ func TestP49AgentOk(t *testing.T) {
 	for _, m := range []impl.Mach{{Pc: 1}, {Inst: 1}, {Last: 1}, {Box: stock("f=")}, {Box: stock("$n=")}, {Outs: []string{""}}, {Stats: []int{0}}} {
 		fits(false, impl.Agent{Mach: m})
 	}
+	// What is too long for a record can't be read; what is not is none of its records.
+	for size, want := range map[int]bool{59: false, 60: false, 61: true, 62: true} {
+		fits(want, impl.Agent{Id: 1, Log: good.Log + recordText(strings.Repeat("c", size))})
+	}
 	// Empty lists are none, whatever they are made of.
 	fits(true, impl.Agent{Mach: impl.Mach{Outs: []string{}, Stats: make([]int, 0, 5), Box: impl.Box{Files: []impl.File{}, Vars: make([]impl.Var, 0, 2)}}})
 	for _, wrong := range wrongCodes() {

@@ -1107,6 +1107,10 @@ func TestP52RepOk(t *testing.T) {
 	} {
 		fits(false, down, change)
 	}
+	// What is too long for a record can't be read; what is not is none of its records.
+	for size, want := range map[int]bool{59: false, 60: false, 61: true, 62: true} {
+		fits(want, down, func(r *impl.Rep) { r.Log = idle.Log + recordText(strings.Repeat("p", size)) })
+	}
 	// Empty lists are none, whatever they are made of.
 	fits(true, down, func(r *impl.Rep) {
 		r.Acc, r.Chosen, r.Yes, r.Got, r.Best, r.Wrote = []impl.Entry{}, []impl.Entry{}, []int{}, []int{}, make([]impl.Entry, 0, 3), make([]int, 0, 3)
