@@ -326,7 +326,7 @@ func checkLogs(t *testing.T, w impl.World) {
 	}
 }
 
-// checkMachs asks what each agent has done, risen, if it is not up (P65).
+// checkMachs asks what each agent has done, risen, if it is not up (P65), and counts those that did one more than is decided.
 func checkMachs(t *testing.T, w impl.World) int {
 	t.Helper()
 	more := 0
@@ -460,14 +460,11 @@ func seenIn(p play, seen map[string]int) {
 func TestP62Plays(t *testing.T) {
 	t.Parallel()
 	seen := map[string]int{}
-	more := 0
 	for _, p := range somePlays(t, 62, 400) {
 		w := p.world()
 		if !checkWorld(t, w) || !impl.WorldSafe(w) {
 			t.Fatalf("%s: %s", p, worldText(w))
 		}
-		checkLogs(t, w)
-		more += checkMachs(t, w)
 		seenIn(p, seen)
 	}
 	for what, least := range map[string]int{"kind 1": 3000, "kind 2": 3000, "kind 3": 300, "kind 4": 200, "kind 5": 100, "kind 6": 100, "kind 7": 200, "kind 8": 200, "spoilt brought": 30, "late": 1000, "two lead": 30, "decided": 200} {
@@ -475,7 +472,30 @@ func TestP62Plays(t *testing.T) {
 			t.Error(what, seen)
 		}
 	}
-	if more < 200 {
+}
+
+func TestP63Logs(t *testing.T) {
+	t.Parallel()
+	took := 0
+	for _, p := range somePlays(t, 63, 200) {
+		w := p.world()
+		checkLogs(t, w)
+		for _, a := range w.Agents {
+			took += len(tookOf(a.Log))
+		}
+	}
+	if took < 100 {
+		t.Error(took)
+	}
+}
+
+func TestP65Machs(t *testing.T) {
+	t.Parallel()
+	more := 0
+	for _, p := range somePlays(t, 65, 200) {
+		more += checkMachs(t, p.world())
+	}
+	if more < 100 {
 		t.Error(more)
 	}
 }

@@ -380,7 +380,7 @@ func TestP72Commands(t *testing.T) {
 		}
 		asksSession(t, "all 1", "true", " "+word+" 0", "what\n", strings.ToUpper(word)+" 0", "what\n", word[1:]+" 0", "what\n", word+"s 0", "what\n", "0 "+word, "what\n")
 	}
-	for _, line := range []string{"", " ", "what", "ok", "report 0", "report ", " report", "reports", "Report", "report\n", "safe 1", "safe ", "safe safe", "safe\n", "calm", "calm ", "calm x", "calm -1", "calm 1 1", "calm 01", "calm 1000000", "calm  1", "calm 1 ", "calm 1\n", "0", "0 0", "1 0", "2", "all 1", "true", "\x00", "\xff 0", "# tick 0", "tick 0; tick 0", "tick\x000"} {
+	for _, line := range []string{"", " ", "what", "ok", "report 0", "report ", " report", "reports", "Report", "report\n", "safe 1", "safe ", "safe safe", "safe\n", "calm", "calm ", "calm x", "calm -1", "calm 1 1", "calm 01", "calm 1000000", "calm  1", "calm 1 ", "calm 1\n", "0", "0 0", "1 0", " 0", " 0 0", "  0", "2", "all 1", "true", "\x00", "\xff 0", "# tick 0", "tick 0; tick 0", "tick\x000"} {
 		asksSession(t, "all 1", "true", "tick 0", "ok\n", line, "what\n", "safe", "yes\n", line, "what\n", "lose 0", "ok\n")
 	}
 }
